@@ -1,0 +1,1 @@
+"""Those who look after others: workers that may die, and keepers that begin them again."""
