@@ -1,13 +1,17 @@
 """A tree of workers and keepers: what ends is begun again by its keeper, or its keeper gives up."""
 
-# The calls; 4 is the one that's left: time.
+# The calls; 8 is the one that's left: up.
 TREE = 0
 FAIL = 1
 BEGIN = 2
 DIE = 3
+TIME = 4
+STOP = 5
+LOG = 6
+NODE = 7
 
 # How many numbers stand behind each call's own; for tree the list itself tells.
-CALL_SIZES = {1: 2, 2: 0, 3: 2, 4: 1}
+CALL_SIZES = {1: 2, 2: 0, 3: 2, 4: 1, 5: 0, 6: 1, 7: 1, 8: 0}
 
 # Refusals.
 NOT_ALLOWED = -1
@@ -132,10 +136,12 @@ class Tree:
                 return
             ended = self.begin_by_way(keeper, ended)
 
+    def recent_times(self, node):
+        return [moment for moment in node.times if self.now - moment <= node.span]
+
     # Those longer ago may be dropped for good, as the time never goes back.
     def count_now(self, keeper):
-        recent = [moment for moment in keeper.times if self.now - moment <= keeper.span]
-        keeper.times = recent + [self.now]
+        keeper.times = self.recent_times(keeper) + [self.now]
 
     def give_up(self, keeper):
         self.stop_running(keeper.children)
@@ -253,6 +259,35 @@ def answer_time(tree, moment):
     return [moment]
 
 
+def answer_stop(tree):
+    root = tree.nodes[0]
+    if root.run == 0:
+        return [NOT_NOW]
+    before = len(tree.happened)
+    tree.stop_node(root)
+    return [len(tree.happened) - before]
+
+
+def answer_log(tree, known):
+    behind = tree.happened[known:]
+    answer = [len(behind)]
+    for thing in behind:
+        answer.extend(thing)
+    return answer
+
+
+def answer_node(tree, number):
+    if not has_node(tree, number):
+        return [NOT_ALLOWED]
+    node = tree.nodes[number - 1]
+    return [node.run, 1 if node.gone else 0, len(tree.recent_times(node)), node.failing]
+
+
+def answer_up(tree):
+    running = [node.number for node in tree.nodes if node.run > 0]
+    return [len(running)] + running
+
+
 def answer_call(tree, call, told):
     if call == TREE:
         return answer_tree(tree, told)
@@ -262,7 +297,15 @@ def answer_call(tree, call, told):
         return answer_begin(tree)
     if call == DIE:
         return answer_die(tree, told[0], told[1])
-    return answer_time(tree, told[0])
+    if call == TIME:
+        return answer_time(tree, told[0])
+    if call == STOP:
+        return answer_stop(tree)
+    if call == LOG:
+        return answer_log(tree, told[0])
+    if call == NODE:
+        return answer_node(tree, told[0])
+    return answer_up(tree)
 
 
 def answers(calls):

@@ -1,4 +1,4 @@
-"""How the tests spell calls, and how they look at what can't be asked for by a call."""
+"""How the tests spell calls, and how they look at a tree: by log, node and up, and at all that it keeps."""
 
 from lookafter import keepers
 
@@ -35,6 +35,22 @@ def time(t):
     return [4, t]
 
 
+def stop():
+    return [5]
+
+
+def log(n=0):
+    return [6, n]
+
+
+def node(i):
+    return [7, i]
+
+
+def up():
+    return [8]
+
+
 def line(*calls):
     return [number for call in calls for number in call]
 
@@ -55,6 +71,13 @@ def asked(*calls):
     return split(keepers.answers(line(*calls)))
 
 
+def things(answer):
+    """What log answers, as what, who and run for each."""
+    numbers = answer[1:]
+    assert len(numbers) == 3 * answer[0]
+    return list(zip(numbers[::3], numbers[1::3], numbers[2::3]))
+
+
 def do(stand, call):
     """One call on a tree that's at hand, with its answer."""
     return keepers.answer_call(stand, call[0], call[2:] if call[0] == 0 else call[1:])
@@ -70,27 +93,30 @@ def after(*calls):
 
 def happened_by(call, *before):
     """What happened by the call, behind those before."""
-    stand = after(*before)
-    first = len(stand.happened)
-    do(stand, call)
-    return stand.happened[first:]
+    first = asked(*before, log())[-1][0]
+    return things(asked(*before, call, log(first))[-1])
 
 
 def running(stand):
-    return [node.number for node in stand.nodes if node.run > 0]
+    return do(stand, up())[1:]
 
 
 def gone(stand):
-    return [node.number for node in stand.nodes if node.gone]
+    return [i + 1 for i in range(len(stand.nodes)) if do(stand, node(i + 1))[1]]
+
+
+def looks(nodes):
+    """The calls that tell all that may be asked for about a tree of so many nodes."""
+    return [log(), up()] + [node(i + 1) for i in range(nodes)]
 
 
 def state(stand):
     """All that a tree keeps, as plain values."""
     nodes = []
-    for node in stand.nodes:
-        values = dict(vars(node))
-        values["parent"] = node.parent.number if node.parent else 0
-        values["children"] = [child.number for child in node.children]
-        values["times"] = list(node.times)
+    for kept in stand.nodes:
+        values = dict(vars(kept))
+        values["parent"] = kept.parent.number if kept.parent else 0
+        values["children"] = [child.number for child in kept.children]
+        values["times"] = list(kept.times)
         nodes.append(values)
     return nodes, stand.now, stand.runs, list(stand.happened)

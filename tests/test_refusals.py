@@ -1,8 +1,9 @@
-"""Point 2, for fail, begin, die and time; and what these calls answer otherwise."""
+"""Point 2: what fail, begin, die and time refuse, and answer otherwise; and that all is as it was behind refusals."""
 
 import unittest
 
-from tests.helper import MOST, after, asked, begin, die, do, fail, keeper, line, state, time, tree, worker
+from tests.helper import (MOST, after, asked, begin, die, do, fail, keeper, line, log, looks, node, state, stop, time,
+                          tree, up, worker)
 
 
 class Fail(unittest.TestCase):
@@ -82,7 +83,8 @@ class AllIsAsItWas(unittest.TestCase):
         stand = after(*before)
         kept = state(stand)
         refused = [(fail(0, 1), -1), (fail(6, 1), -1), (fail(2, 21), -1), (begin(), -8), (die(0), -1), (die(6), -1),
-                   (die(3), -1), (die(5, 2), -1), (die(4), -8), (time(8), -1), (time(1000001), -1)]
+                   (die(3), -1), (die(5, 2), -1), (die(4), -8), (time(8), -1), (time(1000001), -1), (node(0), -1),
+                   (node(6), -1), (node(MOST), -1), (tree(), -1)]
         for call, refusal in refused:
             self.assertEqual(do(stand, call), [refusal], call)
             self.assertEqual(state(stand), kept, call)
@@ -93,10 +95,31 @@ class AllIsAsItWas(unittest.TestCase):
         self.assertEqual(do(stand, die(2)), [-8])
         self.assertEqual(state(stand), kept)
 
+    def test_asked_with_log_node_and_up(self):
+        rows = tree(keeper(0, often=1), worker(1), keeper(1, kind=2), worker(3, kind=2), worker(1, kind=1))
+        runs = [time(4), rows, fail(5, 1), begin(), begin(), time(9), die(4), die(5, 0), die(2), fail(3, 2)]
+        down = {"ahead of begin": [fail(2, 3)], "behind stop": runs + [stop()],
+                "behind a begin that failed": [rows, fail(5, 2), begin()],
+                "behind the root gave up": runs + [die(2)]}
+        never = [(node(0), -1), (node(6), -1), (node(MOST), -1), (fail(6, 1), -1), (fail(1, 21), -1), (die(0), -1),
+                 (die(1, 0), -1), (die(2, 2), -1), (time(1000001), -1), (tree(worker(0)), -1), (tree(), -1)]
+        for when, before in down.items():
+            self.as_it_was(when, before, never + [(stop(), -8), (die(2), -8)])
+        self.as_it_was("while it runs", runs, never + [(begin(), -8), (die(4), -8), (die(5), -8), (time(8), -1)])
+
+    def as_it_was(self, when, before, refused):
+        told = asked(*before, *looks(5))[len(before):]
+        behind = asked(*before, begin(), stop(), *looks(5))[len(before):]
+        for call, refusal in refused:
+            answered = asked(*before, call, *looks(5))[len(before):]
+            self.assertEqual(answered, [[refusal]] + told, (when, call))
+            answered = asked(*before, call, begin(), stop(), *looks(5))[len(before):]
+            self.assertEqual(answered, [[refusal]] + behind, (when, call))
+
     def test_the_line_goes_on_as_without_them(self):
-        calls = [time(3), begin(), die(2), fail(3, 1), die(3, 0), die(3), begin()]
+        calls = [time(3), begin(), die(2), up(), fail(3, 1), node(1), die(3, 0), log(2)]
         answered = asked(*calls)
-        refused = line(time(2), fail(1, 21), die(1), die(2, 2), fail(9, 1))
+        refused = line(time(2), fail(1, 21), die(1), die(2, 2), node(9))
         mixed = asked(*[line(call, refused) for call in calls])
         self.assertEqual(mixed[::6], answered)
         self.assertEqual([part for place, part in enumerate(mixed) if place % 6], [[-1]] * 5 * len(calls))

@@ -2,7 +2,7 @@
 
 import unittest
 
-from tests.helper import after, asked, begin, die, fail, gone, happened_by, keeper, running, time, tree, worker
+from tests.helper import after, asked, begin, die, fail, gone, happened_by, keeper, running, tree, worker
 
 # 1 looks after 2, 3 and 6; 3 looks after 4 and 5; 6 looks after 7.
 LEVELS = tree(keeper(0), worker(1), keeper(1), worker(3), worker(3), keeper(1), worker(6))
